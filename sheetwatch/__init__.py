@@ -1,0 +1,1 @@
+"""Sheetwatch: a watcher of logs whose answers come with sheets."""
