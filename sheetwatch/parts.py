@@ -14,6 +14,19 @@ def first_rule_in(rule):
     return 3 if word in OPERATORS_WITH_LIMITS or word in PREFIXES_WITH_LIMITS else 1
 
 
+def rules_in_core(core):
+    """The tuple of the rules right inside a core rule of any form."""
+    word = core[0]
+    if word in ("event", "compare"):
+        return ()
+    return core[-1:] if word in ("some", "group") else rules_in(core)
+
+
+def is_comparison(core):
+    """Whether a core rule is a compare, or the not of one."""
+    return core[0] == "compare" or core[0] == "not" and core[1][0] == "compare"
+
+
 def names_in_terms(terms):
     """The different names in some terms, a tuple in ascending order."""
     names = []

@@ -11,9 +11,14 @@ def empty(columns):
 def make_table(columns, rows):
     """The table of different columns in any order, and of rows with values in this order."""
     kept = tuple(sorted(columns))
-    # A dict leaves out doubles; the rows in it are put in order below.
-    different = {row: True for row in _values_in((columns, rows), kept)}
-    return (kept, tuple(sorted(different, key=_order_of_row)))
+    return (kept, rows_in_order(_values_in((columns, rows), kept)))
+
+
+def rows_in_order(rows):
+    """The tuple of the different ones of some rows, which ascend."""
+    # A dict leaves out doubles.
+    different = {row: True for row in rows}
+    return tuple(sorted(different, key=_order_of_row))
 
 
 def join(one, other):
@@ -68,7 +73,7 @@ def group(table, x, function, y, names):
     found = {}
     for key, values in zip(_values_in(table, names), _values_in(table, measured)):
         found.setdefault(key, []).append(values)
-    return make_table((*names, x), [(*key, _value_over(function, rows)) for key, rows in found.items()])
+    return make_table((*names, x), [(*key, value_over(function, rows)) for key, rows in found.items()])
 
 
 def value_of(term, values):
@@ -108,7 +113,7 @@ def _values_in(table, kept):
     return [tuple([row[place] for place in places]) for row in rows]
 
 
-def _value_over(function, rows):
+def value_over(function, rows):
     """The function's value over rows, each of which has for sums and the like one value."""
     if function == "count":
         return len(rows)

@@ -49,12 +49,12 @@ def _token_at(line, row, at):
             raise BadQuote(row, at + 1)
         return "text", line[at + 1:behind - 1], behind
     if first in DIGITS:
-        behind = _end_of_word(line, at)
+        behind = end_of_word(line, at)
         if not is_number(line[at:behind]):
             raise BadNumber(row, at + 1)
         return "number", line[at:behind], behind
     if first in LETTERS:
-        behind = _end_of_word(line, at)
+        behind = end_of_word(line, at)
         word = line[at:behind]
         return ("keyword" if word in KEYWORDS else "name"), word, behind
     sign = _sign_at(line, at)
@@ -72,7 +72,7 @@ def _sign_at(line, at):
     return None
 
 
-def _end_of_word(line, at):
+def end_of_word(line, at):
     """The index behind all letters, digits and _ from an index on."""
     behind = at
     while behind < len(line) and (line[behind] in LETTERS or line[behind] in DIGITS or line[behind] == "_"):

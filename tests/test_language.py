@@ -1,6 +1,7 @@
 """Some rules of the language that the package is written in, as far as a test can see them."""
 
 import ast
+import builtins
 import pathlib
 import re
 import unittest
@@ -66,6 +67,51 @@ class LanguageTest(unittest.TestCase):
             words = re.findall(r"\w+", path.read_text(encoding="ascii"))
             for word in BARRED_WORDS:
                 self.assertNotIn(word, words, path)
+
+
+    def test_local_names_are_no_names_of_the_file_or_of_python(self):
+        for path, tree in self.each_tree():
+            taken = {alias.asname or alias.name for node in tree.body if isinstance(node, ast.ImportFrom)
+                     for alias in node.names}
+            taken.update(node.name for node in tree.body if isinstance(node, ast.ClassDef))
+            for node in ast.walk(tree):
+                if isinstance(node, ast.arg):
+                    self.assertNotIn(node.arg, [*taken, *dir(builtins)], path)
+                elif isinstance(node, ast.Name) and isinstance(node.ctx, ast.Store):
+                    self.assertNotIn(node.id, [*taken, *dir(builtins)], path)
+
+    def test_is_stands_beside_none_true_and_false(self):
+        for path, tree in self.each_tree():
+            for node in ast.walk(tree):
+                if isinstance(node, ast.Compare) and isinstance(node.ops[0], (ast.Is, ast.IsNot)):
+                    other = node.comparators[0]
+                    self.assertTrue(isinstance(other, ast.Constant) and other.value in (None, True, False), path)
+
+    def test_no_name_is_a_method_and_an_attribute_of_one_class(self):
+        for path, tree in self.each_tree():
+            for found in [node for node in tree.body if isinstance(node, ast.ClassDef)]:
+                methods = {node.name for node in found.body if isinstance(node, ast.FunctionDef)}
+                for node in ast.walk(found):
+                    if isinstance(node, ast.Attribute) and isinstance(node.ctx, ast.Store):
+                        self.assertNotIn(node.attr, methods, (path, found.name))
+
+    def test_no_two_files_import_from_each_other(self):
+        imported = {path.stem: [node.module.partition(".")[2] for node in tree.body if isinstance(node, ast.ImportFrom)]
+                    for path, tree in self.each_tree()}
+        done = []
+        while len(done) < len(imported):
+            ready = [name for name in imported if name not in done and set(imported[name]) <= set(done)]
+            self.assertTrue(ready, sorted(set(imported) - set(done)))
+            done.extend(ready)
+
+    def test_sets_are_used_on_the_spot(self):
+        for path, tree in self.each_tree():
+            allowed = [node.args[0] for node in ast.walk(tree) if isinstance(node, ast.Call)
+                       and isinstance(node.func, ast.Name) and node.func.id in ("sorted", "len")]
+            for node in ast.walk(tree):
+                is_call = isinstance(node, ast.Call) and isinstance(node.func, ast.Name) and node.func.id == "set"
+                if is_call or isinstance(node, (ast.Set, ast.SetComp)):
+                    self.assertIn(node, allowed, path)
 
 
 def names_defined(tree):
