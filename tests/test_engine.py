@@ -236,6 +236,20 @@ class HeldTest(NodeCase):
                 self.assertEqual(node.held(), rows_held(rule, log[:many]), (rule, log[:many]))
 
 
+    def test_what_cannot_matter_is_forgotten(self):
+        for text in ("once p(x)", "once[0, 5] p(x)", "once[3, *] p(x)", "not go() since[2, 9] p(x)", "before p(x)",
+                     "next p(x)", "soon[0, 5] p(x)", "p(x) and next p(x)", "(soon[0, 3] p(x)) since[0, 2] next p(x)",
+                     "before next soon[0, 4] p(x)", "n = count() of once[0, 9] p(x)"):
+            node = make_node(core(text))
+            sizes = []
+            for time in range(1000, 1200):
+                node.add((time, (("p", ((7,),)),) if time < 1100 else ()))
+                sizes.append(len(repr(node.state())))
+            # Neither many rows nor many points without rows make it grow.
+            self.assertEqual(sizes[50], sizes[90], text)
+            self.assertEqual(sizes[150], sizes[190], text)
+
+
 class FarPointsTest(NodeCase):
     """Points 5.5 and 6.2: what lies further back or ahead than a rule without next looks does not matter."""
 

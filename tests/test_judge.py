@@ -336,6 +336,8 @@ class SettledTest(unittest.TestCase):
         self.check_settled("soon[0, 0] go()", (1, 1, 2), 2)
         self.check_settled("go() until go()", (1, 1, 2), 0)
         self.check_settled("soon[5, *] go()", (1, 1, 2), 0)
+        # Nothing is before the first point, whatever is told of it.
+        self.check_settled("before soon go()", (1, 1, 2), 1)
 
     def test_until_with_parts_that_are_not_settled(self):
         self.check_settled("soon[0, 3] next go()", (1, 5), 1)
