@@ -49,8 +49,8 @@ class Judged:
         self.parts = []
         for part in rules_in_core(core):
             self.parts.append(Judged(part))
-        # How the table of an and is made of a base and the other rule: by "join", or what fits is "fitted" to
-        # the base by a comparison, or "minus" the table of the rule behind its not. None if it cannot be watched.
+        # How the table of an and that can be watched is made of that of its base: it is the "join" with the table
+        # of the other rule, or is "fitted" to a comparison, or "minus" the table of the rule behind a not.
         self.how = None
         self.base_comes_first = True
         if core[0] == "and":
