@@ -1,4 +1,4 @@
-"""The nodes of rules that speak of one point, and the tables that wait for those of another node."""
+"""The nodes of rules that speak of one point, and what two nodes have in common that are parts of one."""
 
 from sheetwatch.steps import combined, table_of_point, table_over
 
@@ -78,7 +78,7 @@ class PairNode:
 
 
 class Pairs:
-    """Two nodes, and the tables of one of them that wait for those of the other one."""
+    """Two nodes, and their tables that wait, both from the same point on."""
 
     def __init__(self, first, second):
         self.first = first
@@ -87,10 +87,21 @@ class Pairs:
         self.others = []
 
     def add(self, point):
-        """The list of the pairs of tables of which both are there with this point."""
+        """The list of the pairs of tables of which both are there with a point; they wait no longer."""
+        self.take_point(point)
+        return self.drop(self.many())
+
+    def take_point(self, point):
+        """Lets the nodes take a point; all their tables wait."""
         self.ones.extend(self.first.add(point))
         self.others.extend(self.second.add(point))
-        many = min(len(self.ones), len(self.others))
+
+    def many(self):
+        """The number of the pairs of tables that wait."""
+        return min(len(self.ones), len(self.others))
+
+    def drop(self, many):
+        """Takes away the first pairs of tables, so many, and returns the list of them."""
         pairs = list(zip(self.ones[:many], self.others[:many]))
         del self.ones[:many]
         del self.others[:many]

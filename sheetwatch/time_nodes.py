@@ -145,26 +145,21 @@ class UntilNode:
         self.low, self.high = rule.core[1:3]
         self.columns = rule.free
         self.how = how
-        self.first = first
-        self.second = second
         # The tables of both parts and the times, all from the first point on that no table was given for.
-        self.ones = []
-        self.others = []
+        self.pairs = Pairs(first, second)
         self.times = []
 
     def add(self, point):
         """The list of the tables that are settled by a point."""
         self.times.append(point[0])
-        self.ones.extend(self.first.add(point))
-        self.others.extend(self.second.add(point))
+        self.pairs.take_point(point)
         tables = []
-        many = self.needed()
-        while many is not None and many <= min(len(self.ones), len(self.others)):
-            tables.append(self.next_table(many))
-            del self.ones[0]
-            del self.others[0]
+        needed = self.needed()
+        while needed is not None and needed <= self.pairs.many():
+            tables.append(self.next_table(needed))
+            self.pairs.drop(1)
             del self.times[0]
-            many = self.needed()
+            needed = self.needed()
         return tables
 
     def needed(self):
@@ -174,33 +169,29 @@ class UntilNode:
             many += 1
         return many if many < len(self.times) else None
 
-    def next_table(self, many):
+    def next_table(self, needed):
         """The table at the first point that none was given for, told by so many points."""
         result = empty(self.columns)
-        for at in reversed(range(many)):
-            tables = [combined(self.how, result, self.ones[at])]
+        for at in reversed(range(needed)):
+            tables = [combined(self.how, result, self.pairs.ones[at])]
             if self.times[at] - self.times[0] >= self.low:
-                tables.append(self.others[at])
+                tables.append(self.pairs.others[at])
             result = union_of(self.columns, tables)
         return result
 
     def state(self):
         """The state, a value."""
-        times, ones, others = tuple(self.times), tuple(self.ones), tuple(self.others)
-        return (times, ones, others, self.first.state(), self.second.state())
+        return (tuple(self.times), self.pairs.state())
 
     def lay_back(self, state):
         """Takes over a state."""
-        times, ones, others, first, second = state
+        times, pairs = state
         self.times = list(times)
-        self.ones = list(ones)
-        self.others = list(others)
-        self.first.lay_back(first)
-        self.second.lay_back(second)
+        self.pairs.lay_back(pairs)
 
     def held(self):
         """The number of rows in all tables held."""
-        return rows_held(self.ones) + rows_held(self.others) + self.first.held() + self.second.held()
+        return self.pairs.held()
 
 
 def _add_rows(remains, time, table):
