@@ -109,17 +109,17 @@ class SinceNode:
 
     def step(self, time, one, other):
         """The table at the next point, which has a time and these tables of the parts."""
-        remains = []
+        kept = []
         for start, table in self.remains:
             if self.high is None or time - start <= self.high:
-                _add_rows(remains, start, combined(self.how, table, one))
-        _add_rows(remains, time, other)
-        self.remains = remains
-        old = [table for start, table in remains if time - start >= self.low]
+                _add_rows(kept, start, combined(self.how, table, one))
+        _add_rows(kept, time, other)
+        old = [table for start, table in kept if time - start >= self.low]
         result = union_of(self.columns, old)
         if self.high is None and old:
             # These count at all points to come, whatever their times are.
-            self.remains = [(remains[0][0], result), *remains[len(old):]]
+            kept = [(kept[0][0], result), *kept[len(old):]]
+        self.remains = kept
         return result
 
     def state(self):
@@ -194,11 +194,11 @@ class UntilNode:
         return self.pairs.held()
 
 
-def _add_rows(remains, time, table):
+def _add_rows(kept, time, table):
     """Adds a table to those of its time, which come last; tables without rows are left out."""
     if not table[1]:
         return
-    if remains and remains[-1][0] == time:
-        start, last = remains.pop()
+    if kept and kept[-1][0] == time:
+        _, last = kept.pop()
         table = union_of(last[0], [last, table])
-    remains.append((time, table))
+    kept.append((time, table))
